@@ -1,0 +1,32 @@
+from importlib import import_module
+from inspect import signature
+from unittest import TestCase
+
+INTERFACE = {
+    "everyface.forms": {
+        "is_form": ["value"], "led": ["form", "row"], "product": ["form", "row", "column"], "worth": ["form", "row"],
+        "part_of": ["form", "lot"],
+    },
+    "everyface.shares": {
+        "stand": ["form", "lot"], "least_worth": ["form"], "least_corners": ["form"], "least_faces": ["form"],
+        "is_least_place": ["form", "row"],
+    },
+    "everyface.errors": {
+        "InvalidForm": ["given"], "InvalidNumber": ["given"], "InvalidRoom": ["given"], "InvalidQuadratic": ["given"],
+        "InvalidWeb": ["given"], "InvalidGame": ["given"], "InvalidRow": ["index"], "InvalidLot": ["index"],
+        "InvalidShares": ["index"], "InvalidEdges": ["index"],
+    },
+}
+
+
+class Interface(TestCase):
+    def test_names_and_parameters(self):
+        for module, names in INTERFACE.items():
+            for name, parameters in names.items():
+                with self.subTest(module=module, name=name):
+                    found = getattr(import_module(module), name)
+                    self.assertEqual(found.__module__, module)
+                    told = signature(found).parameters.values()
+                    self.assertEqual([each.name for each in told], parameters)
+                    self.assertTrue(all([each.kind == each.POSITIONAL_OR_KEYWORD for each in told]))
+                    self.assertTrue(all([each.default is each.empty for each in told]))
