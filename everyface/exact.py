@@ -1,9 +1,10 @@
-"""Fractions as pairs, rows of them, and equations: exact, for values that have been checked."""
+"""Fractions as pairs, rows of them, lots, and equations: exact, for values that have been checked."""
 
 from math import gcd, lcm
 
 NIL = (0, 1)
 ONE = (1, 1)
+LESS = (-1, 1)
 
 
 def is_whole(value):
@@ -79,19 +80,91 @@ def product_by(table, row, column):
     return dot(row, table_times(table, column))
 
 
+def opposite(row):
+    return tuple([times(LESS, number) for number in row])
+
+
+def sum_of_multiples(rows, multiples):
+    """The sum of one row or more, each as often as the number at its place tells."""
+    return tuple([dot(column, multiples) for column in zip(*rows)])
+
+
+def is_from_nil(row):
+    """Whether no number of the row is below 0."""
+    return all([number[0] >= 0 for number in row])
+
+
+def is_noughts(row):
+    return all([number == NIL for number in row])
+
+
+def all_lots(many):
+    """All lots of so many places, other than (), in the order of tuples."""
+    lots = []
+    for place in reversed(range(many)):
+        lots = [(place,)] + [(place, *lot) for lot in lots] + lots
+    return lots
+
+
+def lots_of_size(many, size):
+    """The lots of so many places that have this size, () among them, in the order of tuples."""
+    return [lot for lot in [()] + all_lots(many) if len(lot) == size]
+
+
+def spread(numbers, lot, many):
+    """The row of so many fractions with these numbers on the lot and 0 elsewhere."""
+    row = [NIL] * many
+    for place, number in zip(lot, numbers):
+        row[place] = number
+    return tuple(row)
+
+
 def only_solution(rows, sides):
-    """The only row whose products with the rows, as many as its numbers, are the sides; None if not just one is."""
-    table = [whole_line([*row, side]) for row, side in zip(rows, sides)]
-    many = len(rows)
+    """The only row whose products with the rows, one or more, are the sides; None if not just one is."""
+    many = len(rows[0])
+    table, heads = reduced([whole_line([*row, side]) for row, side in zip(rows, sides)], many)
+    if len(heads) < many or any([line[many] != 0 for line in table[many:]]):
+        return None
+    return tuple([lowest(line[many], line[at]) for at, line in enumerate(table[:many])])
+
+
+def free_solutions(rows, many):
+    """Free rows of so many numbers: the sums of multiples of them are just what has the product 0 with each row.
+
+    They depend on these sums alone: other rows with the same ones give the same rows here.
+    """
+    table, heads = reduced([whole_line(row) for row in rows], many)
+    others = [at for at in range(many) if at not in heads]
+    return tuple([solution_along(table, heads, at, many) for at in others])
+
+
+def solution_along(table, heads, at, many):
+    """The row with the products 0 that has 1 at a place that is no head, and 0 at all others that are none."""
+    row = [NIL] * many
+    row[at] = ONE
+    for line, head in zip(table, heads):
+        row[head] = lowest(-line[at], line[head])
+    return tuple(row)
+
+
+def reduced(table, many):
+    """A table of whole numbers with the same solutions, and the heads of its first lines, one each.
+
+    A head is the only column, of the first so many, in which its line has a number other than 0 and no other line has;
+    lines without a head have 0 in each of these columns.
+    """
+    lines = list(table)
+    heads = []
     before = 1
-    for at in range(many):
-        pivot = first_not_nil(table, at)
-        if pivot is None:
-            return None
-        table[at], table[pivot] = table[pivot], table[at]
-        table = cleared(table, at, before)
-        before = table[at][at]
-    return tuple([lowest(line[many], before) for line in table])
+    for column in range(many):
+        top = len(heads)
+        pivot = first_not_nil(lines, top, column)
+        if pivot is not None:
+            lines[top], lines[pivot] = lines[pivot], lines[top]
+            lines = cleared(lines, top, column, before)
+            before = lines[top][column]
+            heads.append(column)
+    return (lines, heads)
 
 
 def whole_line(row):
@@ -102,22 +175,22 @@ def whole_line(row):
     return [number[0] * (scale // number[1]) for number in row]
 
 
-def first_not_nil(table, at):
-    """The first line, from line `at` on, with a number other than 0 in column `at`; or None."""
-    for k in range(at, len(table)):
-        if table[k][at] != 0:
+def first_not_nil(table, top, column):
+    """The first line, from line `top` on, with a number other than 0 in the column; or None."""
+    for k in range(top, len(table)):
+        if table[k][column] != 0:
             return k
     return None
 
 
-def cleared(table, at, before):
-    """The table of whole numbers with 0 in column `at`, but for line `at`; `before` is the pivot ahead of this one."""
-    head = table[at]
+def cleared(table, top, column, before):
+    """The table of whole numbers with 0 in the column, but for line `top`; `before` is the pivot ahead of this one."""
+    head = table[top]
     lines = []
     for k, line in enumerate(table):
-        if k == at:
+        if k == top:
             lines.append(line)
         else:
             # All numbers are determinants of parts of the first table (Bareiss), so the division leaves no rest.
-            lines.append([(head[at] * low - line[at] * high) // before for low, high in zip(line, head)])
+            lines.append([(head[column] * low - line[column] * high) // before for low, high in zip(line, head)])
     return lines

@@ -1,9 +1,9 @@
 """The least worth of a form on shares, and all shares that have it."""
 
-from everyface.exact import NIL, ONE, least, only_solution, product_by, total
+from everyface.exact import (
+    LESS, NIL, ONE, all_lots, is_from_nil, least, only_solution, product_by, spread, total,
+)
 from everyface.forms import check_form, check_lot, check_row
-
-LESS = (-1, 1)
 
 
 def stand(form, lot):
@@ -49,15 +49,20 @@ def is_least_place(form, row):
 
 def is_shares(row):
     """Whether a row of fractions are shares."""
-    return all([number[0] >= 0 for number in row]) and total(row) == ONE
+    return is_from_nil(row) and total(row) == ONE
 
 
 def least_and_corners(form):
     """The pair of the least worth and of the tuple of the corners."""
-    found = [stand_and_worth(form, lot) for lot in all_lots(len(form))]
-    stands = [pair for pair in found if pair is not None]
-    low = least([pair[1] for pair in stands])
-    return (low, tuple([pair[0] for pair in stands if pair[1] == low]))
+    stands = stands_of(form)
+    low = least([found[2] for found in stands])
+    return (low, tuple([found[1] for found in stands if found[2] == low]))
+
+
+def stands_of(form):
+    """For each lot that stands the lot, its stand and the worth of this, in the order of the lots as tuples."""
+    pairs = [(lot, stand_and_worth(form, lot)) for lot in all_lots(len(form))]
+    return [(lot, *found) for lot, found in pairs if found is not None]
 
 
 def stand_and_worth(form, lot):
@@ -69,22 +74,6 @@ def stand_and_worth(form, lot):
     if solved is None or any([number[0] <= 0 for number in solved[:-1]]):
         return None
     return (spread(solved[:-1], lot, len(form)), solved[-1])
-
-
-def spread(numbers, lot, many):
-    """The row of so many fractions with these numbers on the lot and 0 elsewhere."""
-    row = [NIL] * many
-    for place, number in zip(lot, numbers):
-        row[place] = number
-    return tuple(row)
-
-
-def all_lots(many):
-    """All lots of so many places, other than (), in the order of tuples."""
-    lots = []
-    for place in reversed(range(many)):
-        lots = [(place,)] + [(place, *lot) for lot in lots] + lots
-    return lots
 
 
 def widest(lots):

@@ -14,6 +14,8 @@ FIRM = ((TWO, ONE), (ONE, TWO))
 DIP = ((ONE, (-2, 1)), ((-2, 1), ONE))
 FLAT = ((NIL, NIL), (NIL, NIL))
 SINGLE = (((5, 3),),)
+# Of Horn: "from", with many zeros, though it is neither a sum of squares nor without numbers below 0.
+HORN = tuple([tuple([LESS if (i - j) % 5 in (1, 4) else ONE for j in range(5)]) for i in range(5)])
 
 
 class Plain:
@@ -52,6 +54,11 @@ NO_FORMS = OTHER_SORTS + [
 # What is no lot as a whole, whatever its elements are.
 NO_LOTS = [value for value in OTHER_SORTS if type(value) is not tuple]
 NO_LOTS += [(), 0, 1, -1, [0], [0, 1], {0: 0}, {0}, "0", range(1)]
+
+# What is no whole number, or one out of all bounds that are asked for.
+NO_NUMBERS = OTHER_SORTS + [
+    0, -1, -10 ** 300, 10 ** 6 + 1, 10 ** 400, (), (1,), (2, 1), ONE, "1", "2", b"2", [2], {2: 2},
+]
 
 NO_PLACES = OTHER_SORTS + [-1, -2, -10 ** 30, 10 ** 30, (0,), (1,), (), ONE, "0", [0]]
 
@@ -196,6 +203,98 @@ def squares(chance, many):
     return form_of([[sum([a * b for a, b in zip(one, other)]) for other in lines] for one in lines])
 
 
+def with_zero(chance, zero):
+    """A form that is nowhere below 0, on no row at all, and 0 just at the multiples of a row from 0 on."""
+    many = len(zero)
+    head = [at for at in range(many) if zero[at] != 0][0]
+    lines = [[zero[head] if k == i else -zero[i] if k == head else 0 for k in range(many)] for i in range(many)]
+    weights = [Fraction(chance.randrange(1, 9), chance.randrange(1, 9)) for _ in range(many)]
+    return [[sum([w * line[i] * line[j] for k, (w, line) in enumerate(zip(weights, lines)) if k != head])
+             for j in range(many)] for i in range(many)]
+
+
+def more_at(rows, i, j, by):
+    """The form of the rows with a little more (or less) at one place, and at the place that is alike."""
+    changed = [list(row) for row in rows]
+    changed[i][j] += by
+    changed[j][i] = changed[i][j]
+    return form_of(changed)
+
+
+def told_word(form):
+    """The word of a form by the stands of all lots, as these are worked out here."""
+    stands = [told_stand(form, lot) for lot in lots_of(len(form))]
+    low = min([number(found[1]) for found in stands if found is not None])
+    return "above" if low > 0 else "from" if low == 0 else "below"
+
+
+def in_cone(row, edges):
+    """Whether numbers are a sum of multiples from 0 on of edges: then they are one of some free ones of them."""
+    if not any(row):
+        return True
+    for size in range(1, min(len(row), len(edges)) + 1):
+        for some in combinations(edges, size):
+            found = solutions([list(line) for line in zip(*some)], row)
+            if found is not None and found[1] == 0 and min(found[0]) >= 0:
+                return True
+    return False
+
+
+def times_row(row, other):
+    return sum([a * b for a, b in zip(row, other)])
+
+
+def across(one, other):
+    """The row of three numbers at right angles to two."""
+    return [one[1] * other[2] - one[2] * other[1], one[2] * other[0] - one[0] * other[2],
+            one[0] * other[1] - one[1] * other[0]]
+
+
+def units(many):
+    return [[int(i == j) for j in range(many)] for i in range(many)]
+
+
+def ways_of(many, rows):
+    """Ways of which all ways of the rows are sums: within each corner of signs the cone of ways has no lines."""
+    sides = rows + units(many)
+    if many == 1:
+        found = [[1]]
+    elif many == 2:
+        found = [[-side[1], side[0]] for side in sides]
+    else:
+        found = [across(one, other) for one, other in combinations(sides, 2)]
+    found = found + [[-value for value in way] for way in found]
+    return [way for way in found if any(way) and all([times_row(row, way) <= 0 for row in rows])]
+
+
+def places_in(many, rows, limits):
+    """Places of which, with ways, all places of a room are mixes: the corners of it within each corner of signs."""
+    sides = list(zip(rows, limits)) + [(unit, 0) for unit in units(many)]
+    places = []
+    for some in combinations(sides, many):
+        found = solutions([row for row, _ in some], [limit for _, limit in some])
+        if found is not None and found[1] == 0 and found[0] not in places:
+            if all([times_row(row, found[0]) <= limit for row, limit in zip(rows, limits)]):
+                places.append(found[0])
+    return places
+
+
+def some_rows(chance, many, size, values):
+    """Rows of many numbers, so many, among which are often noughts, the same ones, and opposites."""
+    rows = []
+    for _ in range(size):
+        kind = chance.randrange(8)
+        if rows and kind == 0:
+            rows.append([-value for value in chance.choice(rows)])
+        elif rows and kind == 1:
+            rows.append([value * 2 for value in chance.choice(rows)])
+        elif kind == 2:
+            rows.append([Fraction(0)] * many)
+        else:
+            rows.append([Fraction(chance.choice(values)) for _ in range(many)])
+    return rows
+
+
 def great_number(chance):
     return Fraction(chance.randrange(-10 ** 399, 10 ** 399), chance.randrange(1, 10 ** 399))
 
@@ -210,3 +309,24 @@ class FaceCase(TestCase):
         self.assertEqual(error.__bases__, (FaceError,))
         self.assertIs(getattr(caught.exception, attribute), value)
         self.assertEqual(vars(caught.exception), {attribute: value})
+
+    def told_bare(self, error, function, *given, **named):
+        with self.assertRaises(FaceError) as caught:
+            function(*given, **named)
+        self.assertIs(type(caught.exception), error)
+        self.assertEqual(error.__bases__, (FaceError,))
+        self.assertEqual(vars(caught.exception), {})
+
+    def is_row(self, row, many):
+        """Looks whether a row is a tuple of so many fractions in lowest terms."""
+        self.assertIs(type(row), tuple)
+        self.assertEqual(len(row), many)
+        for value in row:
+            self.assertIs(type(value), tuple)
+            self.assertEqual([type(part) for part in value], [int, int])
+            self.assertEqual(pair(number(value)), value)
+
+    def are_shares(self, row, many):
+        self.is_row(row, many)
+        self.assertGreaterEqual(min(numbers(row)), 0)
+        self.assertEqual(sum(numbers(row)), 1)

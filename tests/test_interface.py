@@ -11,6 +11,19 @@ INTERFACE = {
         "stand": ["form", "lot"], "least_worth": ["form"], "least_corners": ["form"], "least_faces": ["form"],
         "is_least_place": ["form", "row"],
     },
+    "everyface.words": {
+        "word_of": ["form"], "low_row": ["form"], "rising_rows": ["form"], "is_zero": ["form", "row"],
+        "is_plus": ["form"],
+    },
+    "everyface.sunk": {"sunk_near": ["form", "other", "many"]},
+    "everyface.cones": {
+        "cone_form": ["form", "edges"], "cone_word": ["form", "edges"], "cone_low": ["form", "edges"],
+        "ways_edges": ["number", "rows"],
+    },
+    "everyface.rooms": {
+        "is_room": ["value"], "is_in": ["room", "place"], "is_empty": ["room"], "barring": ["room"],
+        "corners_of_room": ["room"], "told_places": ["room"], "room_edges": ["room"],
+    },
     "everyface.errors": {
         "InvalidForm": ["given"], "InvalidNumber": ["given"], "InvalidRoom": ["given"], "InvalidQuadratic": ["given"],
         "InvalidWeb": ["given"], "InvalidGame": ["given"], "InvalidRow": ["index"], "InvalidLot": ["index"],
