@@ -1,11 +1,11 @@
 """Down to which number a form is sunk by another one whose word is above, told near."""
 
 from everyface.errors import InvalidForm, InvalidNumber, NotAbove
-from everyface.exact import NIL, ONE, is_whole, lowest, plus, product_by, times
+from everyface.exact import is_whole, lowest, plus, product_by, times
 from everyface.forms import check_form
 from everyface.words import ABOVE, BELOW, FROM, word_and_corners
 
-MOST_PARTS = 10 ** 6
+MOST_PARTS = 1000000
 
 
 def sunk_near(form, other, many):
@@ -13,15 +13,14 @@ def sunk_near(form, other, many):
     check_form(form)
     check_other(other, len(form))
     check_many(many)
-    if word_and_corners(other)[0] != ABOVE:
+    word, corners = word_and_corners(other)
+    if word != ABOVE:
         raise NotAbove()
-    row = (ONE,) + (NIL,) * (len(form) - 1)
     word = BELOW
     # What a row tells is never too low. While it is too high, the row that shows this tells less.
     while word == BELOW:
-        count = told_by(row, form, other, many)
+        count = told_by(corners[0], form, other, many)
         word, corners = word_and_corners(less_multiple(form, other, lowest(count, many)))
-        row = corners[0]
     return (count, word == FROM)
 
 

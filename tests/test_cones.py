@@ -264,6 +264,12 @@ class Ways(FaceCase):
         wide = [[2, 1, -4], [0, 3, -4], [-2, 1, -4], [-2, -1, -4], [0, -3, -4], [2, -1, -4]]
         self.assertEqual(self.are_edges(3, form_of(wide)), 6)
 
+    def test_rows_that_add_no_side_add_no_edge_beyond_six(self):
+        five = [[0, -2, 0], [-1, 0, -2], [-1, -2, 0], [2, -2, -1], [-2, 1, -1]]
+        for row in [[0, 0, 0]] + five:
+            self.assertLessEqual(self.are_edges(3, form_of(five + [row])), 6)
+            self.assertLessEqual(self.are_edges(3, form_of([row] + five)), 6)
+
     def test_no_rows_and_noughts(self):
         for many in (1, 2, 3):
             for size in range(7):

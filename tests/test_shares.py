@@ -6,7 +6,7 @@ from everyface.forms import led, part_of, product, worth
 from everyface.shares import is_least_place, least_corners, least_faces, least_worth, stand
 from tests.samples import (
     CROSS, DIP, FIRM, FLAT, FaceCase, HALF, HUMP, LESS, NIL, NO_FORMS, NO_FRACTIONS, NO_LOTS, NO_PLACES, ONE,
-    OTHER_SORTS, SINGLE, SMALL, TWO, any_form, form_of, form_with, great_number, is_mix_of, led_to, lots_of, many_forms,
+    OTHER_SORTS, SINGLE, TWO, any_form, form_of, form_with, great_number, is_mix_of, led_to, lots_of, many_forms,
     number, numbers, pair, pairs, product_of, raised, shares_by, table, told_stand,
 )
 
