@@ -49,17 +49,24 @@ def products_of(form, edges):
 
 def word_and_low(form, edges):
     """The pair of the word on the cone and of a row of it that shows that the word is not above, None if it is."""
-    if len(edges) == 0:
-        return (ABOVE, None)
-    word, corners = word_and_corners(products_of(form, edges))
+    word, multiples = word_and_multiples(form, edges)
     if word == ABOVE:
         return (ABOVE, None)
+    return (word, sum_of_multiples(edges, multiples))
+
+
+def word_and_multiples(form, edges):
+    """The pair of the word on the cone and of multiples that make a row that shows it; () for above."""
+    if len(edges) == 0:
+        return (ABOVE, ())
+    word, corners = word_and_corners(products_of(form, edges))
+    if word == ABOVE:
+        return (ABOVE, ())
     for multiples in corners:
-        row = sum_of_multiples(edges, multiples)
         # Multiples other than noughts may make noughts, where there are lines.
-        if not is_noughts(row):
-            return (word, row)
-    return (ABOVE, None)
+        if not is_noughts(sum_of_multiples(edges, multiples)):
+            return (word, multiples)
+    return (ABOVE, ())
 
 
 def edges_of_ways(number, rows):

@@ -84,6 +84,10 @@ def opposite(row):
     return tuple([times(LESS, number) for number in row])
 
 
+def opposite_rows(table):
+    return tuple([opposite(row) for row in table])
+
+
 def sum_of_multiples(rows, multiples):
     """The sum of one row or more, each as often as the number at its place tells."""
     return tuple([dot(column, multiples) for column in zip(*rows)])
@@ -96,6 +100,28 @@ def is_from_nil(row):
 
 def is_noughts(row):
     return all([number == NIL for number in row])
+
+
+def unit(at, many):
+    """The row of so many fractions that is 1 at a place and 0 elsewhere."""
+    return spread((ONE,), (at,), many)
+
+
+def turned(table):
+    """The table with the columns as rows."""
+    return tuple([tuple(column) for column in zip(*table)])
+
+
+def both_ways(table):
+    """The table plus the table turned over: alike when it is turned over itself."""
+    return tuple([
+        tuple([plus(one, other) for one, other in zip(row, column)]) for row, column in zip(table, turned(table))
+    ])
+
+
+def lot_of(row):
+    """The places at which a row is not 0."""
+    return tuple([at for at, number in enumerate(row) if number != NIL])
 
 
 def all_lots(many):
@@ -121,11 +147,26 @@ def spread(numbers, lot, many):
 
 def only_solution(rows, sides):
     """The only row whose products with the rows, one or more, are the sides; None if not just one is."""
+    solution, left = solved(rows, sides)
+    if left > 0:
+        return None
+    return solution
+
+
+def any_solution(rows, sides):
+    """Any row whose products with the rows, one or more, are the sides; None if there is none."""
+    return solved(rows, sides)[0]
+
+
+def solved(rows, sides):
+    """The pair of a solution, None if there is none, and of the number of unknowns that the rows leave free."""
     many = len(rows[0])
     table, heads = reduced([whole_line([*row, side]) for row, side in zip(rows, sides)], many)
-    if len(heads) < many or any([line[many] != 0 for line in table[many:]]):
-        return None
-    return tuple([lowest(line[many], line[at]) for at, line in enumerate(table[:many])])
+    left = many - len(heads)
+    if any([line[many] != 0 for line in table[len(heads):]]):
+        return (None, left)
+    numbers = [lowest(line[many], line[head]) for line, head in zip(table, heads)]
+    return (spread(numbers, heads, many), left)
 
 
 def free_solutions(rows, many):

@@ -1,7 +1,8 @@
 """The least worth of a form on shares, and all shares that have it."""
 
+from everyface.errors import InvalidShares
 from everyface.exact import (
-    LESS, NIL, ONE, all_lots, is_from_nil, least, only_solution, product_by, spread, total,
+    LESS, NIL, ONE, all_lots, is_fraction, is_from_nil, least, only_solution, product_by, spread, total,
 )
 from everyface.forms import check_form, check_lot, check_row
 
@@ -50,6 +51,17 @@ def is_least_place(form, row):
 def is_shares(row):
     """Whether a row of fractions are shares."""
     return is_from_nil(row) and total(row) == ONE
+
+
+def check_shares(shares, many):
+    """Raises what is told for shares of so many places, or for a mix."""
+    if type(shares) != tuple or len(shares) != many:
+        raise InvalidShares(None)
+    for at, number in enumerate(shares):
+        if not is_fraction(number) or number[0] < 0:
+            raise InvalidShares(at)
+    if total(shares) != ONE:
+        raise InvalidShares(None)
 
 
 def least_and_corners(form):

@@ -24,6 +24,20 @@ INTERFACE = {
         "is_room": ["value"], "is_in": ["room", "place"], "is_empty": ["room"], "barring": ["room"],
         "corners_of_room": ["room"], "told_places": ["room"], "room_edges": ["room"],
     },
+    "everyface.quadratics": {
+        "is_quadratic": ["value"], "worth_at": ["quadratic", "place"], "slope_at": ["quadratic", "place"],
+        "is_bounded": ["quadratic", "room"], "falling": ["quadratic", "room"], "least_of": ["quadratic", "room"],
+        "greatest_of": ["quadratic", "room"],
+    },
+    "everyface.nearby": {
+        "word_near": ["quadratic", "room", "place"], "way_down": ["quadratic", "room", "place"],
+        "multipliers": ["quadratic", "room", "place"], "strict_places": ["quadratic", "room"],
+    },
+    "everyface.webs": {
+        "is_web": ["value"], "web_form": ["web"], "lot_weight": ["web", "lot"], "place_of": ["web", "lot"],
+        "is_tied": ["web", "lot"], "full_lots": ["web"], "heaviest": ["web"], "tied_within": ["web", "shares"],
+        "untied_number": ["web"], "untied_form": ["web", "number"],
+    },
     "everyface.errors": {
         "InvalidForm": ["given"], "InvalidNumber": ["given"], "InvalidRoom": ["given"], "InvalidQuadratic": ["given"],
         "InvalidWeb": ["given"], "InvalidGame": ["given"], "InvalidRow": ["index"], "InvalidLot": ["index"],

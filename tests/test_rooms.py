@@ -5,52 +5,15 @@ from random import Random
 from everyface.cones import ways_edges
 from everyface.errors import InvalidRoom, InvalidRow
 from everyface.rooms import barring, corners_of_room, is_empty, is_in, is_room, room_edges, told_places
+from tests.room_samples import (
+    ALL, FEW, GAP, NO_ROOMS, QUARTER, RIGHT, SQUARE, STRIP, TINY, plain, some_rooms,
+)
 from tests.samples import (
-    FaceCase, HALF, HUMP, LESS, NIL, NO_FRACTIONS, NO_NUMBERS, ONE, OTHER_SORTS, TWO, form_of, great_number, in_cone,
-    number, numbers, pairs, places_in, some_rows, solutions, times_row, units, ways_of,
+    FaceCase, HALF, LESS, NIL, NO_FRACTIONS, NO_NUMBERS, ONE, OTHER_SORTS, TWO, form_of, great_number, in_cone, number,
+    numbers, pairs, places_in, solutions, times_row, units, ways_of,
 )
 
-RIGHT = ((LESS, NIL), (NIL, LESS))
-SQUARE = (2, ((ONE, NIL), (NIL, ONE), (LESS, NIL), (NIL, LESS)), (ONE, ONE, NIL, NIL))
-QUARTER = (2, RIGHT, (NIL, NIL))
-STRIP = (2, ((NIL, ONE), (NIL, LESS)), (ONE, NIL))
-GAP = (1, ((ONE,), (LESS,)), (NIL, LESS))
-ALL = {many: (many, (), ()) for many in (1, 2, 3)}
 OF_ONE_ROOM = (is_empty, barring, corners_of_room, told_places, room_edges)
-FEW = [-2, -1, -1, 0, 0, 1, 1, 2, Fraction(1, 2), Fraction(-1, 3)]
-TINY = Fraction(1, 10 ** 300)
-
-NO_ROOMS = OTHER_SORTS + [
-    0, 1, (), (1,), (2, ()), (2, (), (), ()), [2, (), ()], ((), (), ()), (2, [], ()), (2, (), []), (2, None, None),
-    (0, (), ()), (4, (), ()), (-1, (), ()), (True, (), ()), (False, (), ()), ("1", (), ()), ((1, 1), (), ()),
-    (None, (), ()), (1, ((ONE,),), ()), (1, (), (ONE,)), (1, ((ONE,),), (ONE, ONE)), (1, ((ONE,), (ONE,)), (ONE,)),
-    (1, ((ONE, ONE),), (ONE,)),
-    (2, ((ONE,),), (ONE,)), (2, ((ONE, ONE, ONE),), (ONE,)), (2, (ONE, ONE), (ONE, ONE)), (1, (ONE,), (ONE,)),
-    (2, ([ONE, ONE],), (ONE,)), (2, ((ONE, ONE),), [ONE]), (2, [(ONE, ONE)], (ONE,)), (2, ((ONE, [1, 1]),), (ONE,)),
-    (1, ((ONE,),), ((2, 2),)), (1, (((2, 2),),), (ONE,)), (1, ((ONE,),), (1,)), (1, ((1,),), (ONE,)),
-    (1, ((),), (ONE,)),
-    (1, (((1, 0),),), (ONE,)), (1, ((ONE,),), ((1, -1),)), (1, ((ONE,),), ((True, 1),)), (1, ((ONE,),), (None,)),
-    (1, ((ONE,),) * 7, (ONE,) * 7), (2, ((NIL, NIL),) * 7, (NIL,) * 7), {0: 2, 1: (), 2: ()}, "2()", b"200", HUMP,
-    (((ONE,), (ONE,)), 1), (1, {}, ()), (1, (), {}), (1, (), set()), (1, "", ""), (3, (None,), (ONE,)),
-    (2, ("ab",), (ONE,)),
-]
-
-
-def some_room(chance, many, size, low):
-    """A room with rows that are often alike, opposite or noughts, and limits from a number on."""
-    rows = some_rows(chance, many, size, FEW)
-    limits = [chance.choice([value for value in FEW if value >= low]) for _ in rows]
-    return (many, form_of(rows), pairs(limits))
-
-
-def some_rooms(seed, rounds):
-    chance = Random(seed)
-    return [some_room(chance, many, size, low)
-            for _ in range(rounds) for many in (1, 2, 3) for size in range(7) for low in (-2, 0)]
-
-
-def plain(room):
-    return room[0], [numbers(row) for row in room[1]], numbers(room[2])
 
 
 class Examples(FaceCase):
