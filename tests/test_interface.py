@@ -1,5 +1,7 @@
+import ast
 from importlib import import_module
 from inspect import signature
+from pathlib import Path
 from unittest import TestCase
 
 INTERFACE = {
@@ -38,12 +40,32 @@ INTERFACE = {
         "is_tied": ["web", "lot"], "full_lots": ["web"], "heaviest": ["web"], "tied_within": ["web", "shares"],
         "untied_number": ["web"], "untied_form": ["web", "number"],
     },
+    "everyface.mixes": {
+        "is_game": ["value"], "gains": ["game", "mix"], "mean": ["game", "mix"], "best_answers": ["game", "mix"],
+        "is_even": ["game", "mix"], "even_corners": ["game"], "is_unentered": ["game", "mix"],
+        "is_unhurt": ["game", "mix"], "entering": ["game", "mix"], "hurting": ["game", "mix"],
+        "all_unentered": ["game"], "barrier": ["game", "mix", "other"], "next_mix": ["game", "mix"],
+    },
+    "everyface.eithers": {
+        "is_answer": ["table", "row", "other"], "corner_answers": ["table", "row"], "any_answer": ["table", "row"],
+        "met_by": ["table", "row"], "barring_row": ["table", "row"], "form_of": ["table"], "either_of": ["game"],
+    },
+    "everyface.checker": {"accepts": ["claim", "paper"]},
+    "everyface.certificates": {
+        "certify_word": ["form"], "certify_least": ["form"], "certify_plus": ["form"],
+        "certify_sunk": ["form", "other", "many"], "certify_cone": ["form", "edges"], "certify_room": ["room"],
+        "certify_bounded": ["quadratic", "room"], "certify_least_over": ["quadratic", "room"],
+        "certify_near": ["quadratic", "room", "place"], "certify_heaviest": ["web"],
+        "certify_entering": ["game", "mix"], "certify_hurting": ["game", "mix"], "certify_met": ["table", "row"],
+        "certify_answer": ["table", "row"],
+    },
     "everyface.errors": {
         "InvalidForm": ["given"], "InvalidNumber": ["given"], "InvalidRoom": ["given"], "InvalidQuadratic": ["given"],
         "InvalidWeb": ["given"], "InvalidGame": ["given"], "InvalidRow": ["index"], "InvalidLot": ["index"],
         "InvalidShares": ["index"], "InvalidEdges": ["index"],
     },
 }
+FILES = Path(__file__).resolve().parent.parent / "everyface"
 
 
 class Interface(TestCase):
@@ -57,3 +79,13 @@ class Interface(TestCase):
                     self.assertEqual([each.name for each in told], parameters)
                     self.assertTrue(all([each.kind == each.POSITIONAL_OR_KEYWORD for each in told]))
                     self.assertTrue(all([each.default is each.empty for each in told]))
+
+    def test_each_is_defined_in_the_file_of_its_module(self):
+        for module, names in INTERFACE.items():
+            tree = ast.parse((FILES / (module.split(".")[1] + ".py")).read_text())
+            defined = {node.name for node in tree.body if isinstance(node, (ast.FunctionDef, ast.ClassDef))}
+            self.assertLessEqual(set(names), defined)
+
+    def test_no_module_is_left_out(self):
+        known = {path.stem for path in FILES.glob("*.py")} - {"__init__", "exact"}
+        self.assertEqual({name.split(".")[1] for name in INTERFACE}, known)
