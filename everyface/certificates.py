@@ -37,7 +37,6 @@ def certify_least(form):
 
 def certify_plus(form):
     """A claim of whether a form is plus, and its paper."""
-    check_form(form)
     if is_plus(form):
         return (("plus", form), ())
     word, corners = word_and_corners(form)

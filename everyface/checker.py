@@ -5,14 +5,14 @@ error of this package for parts or a paper that are not such as the claim has.
 """
 
 from everyface.cones import cone_word, is_way
-from everyface.eithers import any_answer, bars, is_answer, meets
+from everyface.eithers import any_answer, bars, check_table_and_row, is_answer, meets
 from everyface.errors import FaceError
 from everyface.exact import (
     NIL, all_lots, dot, is_fraction, is_from_nil, is_less, is_noughts, is_row, is_whole, least, lot_of, product_by,
     sum_of_multiples, table_times, turned,
 )
 from everyface.forms import check_form, check_row
-from everyface.mixes import check_game, enters, hurts, is_unentered, is_unhurt
+from everyface.mixes import check_game_and_mix, enters, hurts, is_unentered, is_unhurt
 from everyface.nearby import DOWN, goes_down, tight_at, word_near
 from everyface.quadratics import check_over, falls_along, is_bounded, least_of, worth_at
 from everyface.rooms import check_room, is_in
@@ -210,16 +210,14 @@ def least_risen(form, rows):
 def check_mixes(claim, paper):
     """Checks the game and the mix of a claim, and another mix as its paper."""
     _, game, mix = claim
-    check_game(game)
-    check_shares(mix, len(game))
+    check_game_and_mix(game, mix)
     check_shares(paper, len(game))
 
 
 def check_either(claim, paper):
     """Checks the table and the row of a claim, and another row as its paper."""
     _, table, row = claim
-    check_game(table)
-    check_row(row, len(table))
+    check_table_and_row(table, row)
     check_row(paper, len(table))
 
 

@@ -10,23 +10,20 @@ from everyface.mixes import check_game
 
 def is_answer(table, row, other):
     """Whether another row is an answer for a table and a row."""
-    check_game(table)
-    check_row(row, len(table))
+    check_table_and_row(table, row)
     check_row(other, len(table))
     return answers(table, row, other)
 
 
 def corner_answers(table, row):
     """All corners of the answers, in the order in which Python compares tuples."""
-    check_game(table)
-    check_row(row, len(table))
+    check_table_and_row(table, row)
     return corners_of_answers(table, row)
 
 
 def any_answer(table, row):
     """An answer; None if there is none."""
-    check_game(table)
-    check_row(row, len(table))
+    check_table_and_row(table, row)
     corners = corners_of_answers(table, row)
     # If there is an answer, there is a corner.
     return None if len(corners) == 0 else corners[0]
@@ -34,15 +31,13 @@ def any_answer(table, row):
 
 def met_by(table, row):
     """A row from 0 on with a rest from 0 on; None if there is none."""
-    check_game(table)
-    check_row(row, len(table))
+    check_table_and_row(table, row)
     return meeting(table, row)
 
 
 def barring_row(table, row):
     """A row that bars the table and the row; None if these can be met."""
-    check_game(table)
-    check_row(row, len(table))
+    check_table_and_row(table, row)
     many = len(table)
     # If there is one, there is one on a lot that is the only one with the sum - 1 and noughts at one place fewer.
     for lot in all_lots(many):
@@ -141,3 +136,8 @@ def only_on(lines, sides, lot, many):
     if found is None or not is_from_nil(found):
         return None
     return spread(found, lot, many)
+
+
+def check_table_and_row(table, row):
+    check_game(table)
+    check_row(row, len(table))

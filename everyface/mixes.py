@@ -21,29 +21,25 @@ def is_game(value):
 
 def gains(game, mix):
     """What each place gets beside a mix."""
-    check_game(game)
-    check_shares(mix, len(game))
+    check_game_and_mix(game, mix)
     return table_times(game, mix)
 
 
 def mean(game, mix):
     """What a mix gets beside itself."""
-    check_game(game)
-    check_shares(mix, len(game))
+    check_game_and_mix(game, mix)
     return product_by(game, mix, mix)
 
 
 def best_answers(game, mix):
     """The lot of the places that get most beside a mix."""
-    check_game(game)
-    check_shares(mix, len(game))
+    check_game_and_mix(game, mix)
     return best_of(game, mix)
 
 
 def is_even(game, mix):
     """Whether no mix gets more beside a mix than it does itself."""
-    check_game(game)
-    check_shares(mix, len(game))
+    check_game_and_mix(game, mix)
     return is_within_best(game, mix)
 
 
@@ -55,29 +51,25 @@ def even_corners(game):
 
 def is_unentered(game, mix):
     """Whether no mix enters a mix."""
-    check_game(game)
-    check_shares(mix, len(game))
+    check_game_and_mix(game, mix)
     return enterer(game, mix) is None
 
 
 def is_unhurt(game, mix):
     """Whether no mix hurts a mix."""
-    check_game(game)
-    check_shares(mix, len(game))
+    check_game_and_mix(game, mix)
     return hurter(game, mix) is None
 
 
 def entering(game, mix):
     """A mix that enters a mix; None if there is none."""
-    check_game(game)
-    check_shares(mix, len(game))
+    check_game_and_mix(game, mix)
     return enterer(game, mix)
 
 
 def hurting(game, mix):
     """A mix that hurts a mix; None if there is none."""
-    check_game(game)
-    check_shares(mix, len(game))
+    check_game_and_mix(game, mix)
     return hurter(game, mix)
 
 
@@ -90,8 +82,7 @@ def all_unentered(game):
 
 def barrier(game, mix, other):
     """Up to which share of another mix a mix gets more than that beside both."""
-    check_game(game)
-    check_shares(mix, len(game))
+    check_game_and_mix(game, mix)
     check_shares(other, len(game))
     if mix == other:
         raise LikeMixes()
@@ -106,8 +97,7 @@ def barrier(game, mix, other):
 
 def next_mix(game, mix):
     """The mix with each number times what its place gets, over the mean."""
-    check_game(game)
-    check_shares(mix, len(game))
+    check_game_and_mix(game, mix)
     if any([number[0] <= 0 for row in game for number in row]):
         raise NotAbove()
     whole = product_by(game, mix, mix)
@@ -231,3 +221,8 @@ def changed(mix, change):
 def check_game(game):
     if not is_game(game):
         raise InvalidGame(game)
+
+
+def check_game_and_mix(game, mix):
+    check_game(game)
+    check_shares(mix, len(game))

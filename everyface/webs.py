@@ -93,7 +93,7 @@ def is_tie(web, i, j):
 
 def form_number(web, i, j):
     """The number of the form of the web in a row and column."""
-    if i != j and is_tie(web, i, j):
+    if is_tie(web, i, j):
         return NIL
     upright, across = [lowest(web[2][k][1], web[2][k][0]) for k in (i, j)]
     return upright if i == j else plus(upright, across)

@@ -94,6 +94,7 @@ CLAIMS = [
     (("unhurt", DOVE, EVEN), [()], [EVEN]),
     (("unhurt", ALL_SAME, THIRDS), [()], [THIRDS, (ONE, NIL, NIL)]),
     (("hurt", MEET, (THIRD, (2, 3))), [RISE, (NIL, ONE), EVEN], [(), (THIRD, (2, 3)), PLAIN, (ONE, ONE)]),
+    (("hurt", MEET, EVEN), [RISE, ((3, 4), (1, 4))], [(), (NIL, ONE), EVEN, (THIRD, (2, 3))]),
     (("hurt", DOVE, RISE), [(NIL, ONE), EVEN], [(), RISE, (NIL, TWO)]),
     (("met", CROSS, (LESS, ONE)), [(NIL, ONE), (ONE, TWO)], [(), PLAIN, (LESS, ONE), (NIL, HALF), (ONE,), (NIL, ONE, NIL)]),
     (("met", FLAT, PLAIN), [PLAIN, (ONE, TWO)], [(LESS, NIL), ()]),

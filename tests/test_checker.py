@@ -13,6 +13,13 @@ from tests.samples import (
 )
 from tests.web_samples import HEAVY, NO_WEBS
 
+class Agreeing:
+    """Says that it is equal to whatever it is compared with."""
+
+    def __eq__(self, other):
+        return True
+
+
 WORDS = sorted({claim[0] for claim, _, _ in CLAIMS})
 PLAIN = (NIL, NIL)
 
@@ -146,6 +153,16 @@ class Claims(TestCase):
             for other in spoiled(claim):
                 with self.subTest(claim=other):
                     self.assertIs(accepts(other, right[0]), False)
+
+    def test_values_that_agree_with_all_others(self):
+        for claim, right, _ in CLAIMS:
+            self.assertIs(accepts(claim, Agreeing()), False)
+            self.assertIs(accepts(Agreeing(), right[0]), False)
+            for k in range(len(claim)):
+                self.assertIs(accepts(claim[:k] + (Agreeing(),) + claim[k + 1:], right[0]), False)
+        self.assertIs(accepts(("heaviest", HEAVY, (4, 1)), (1, Agreeing())), False)
+        self.assertIs(accepts(("sunk", FIRM, FIRM, 1, (1, Agreeing())), ()), False)
+        self.assertIs(accepts(("sunk", FIRM, FIRM, 1, (Agreeing(), True)), ()), False)
 
     def test_parts_however_deep(self):
         for claim, right, _ in CLAIMS:

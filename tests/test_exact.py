@@ -1,7 +1,10 @@
 from random import Random
 from unittest import TestCase
 
-from everyface.exact import free_solutions, is_fraction, lots_of_size, lowest, only_solution
+from everyface.exact import (
+    any_solution, both_ways, free_solutions, is_fraction, lot_of, lots_of_size, lowest, only_solution, opposite_rows, turned,
+    unit,
+)
 from tests.samples import (
     HALF, LESS, NIL, NO_FRACTIONS, ONE, TWO, form_of, lots_of, numbers, pairs, solutions, some_rows, table, times_row,
 )
@@ -34,6 +37,29 @@ class Equations(TestCase):
                 self.assertEqual(only_solution(rows, sides), pairs(told[0]) if just_one else None)
             seen.add((just_one, size > many))
         self.assertGreaterEqual(len(seen), 3)
+
+    def test_any_solution(self):
+        chance = Random(33)
+        seen = set()
+        for _ in range(400):
+            many, size = chance.randrange(1, 5), chance.randrange(1, 7)
+            rows = some_rows(chance, many, size, [-1, 0, 1, 2])
+            sides = [chance.choice([-1, 0, 0, 1]) for _ in range(size)]
+            told = any_solution(form_of(rows), pairs(sides))
+            known = solutions(rows, sides)
+            with self.subTest(rows=rows, sides=sides):
+                self.assertEqual(told is None, known is None)
+                if told is not None:
+                    self.assertEqual(len(told), many)
+                    self.assertEqual([times_row(row, numbers(told)) for row in rows], sides)
+            seen.add((known is None, known is not None and known[1] > 0))
+        self.assertEqual(len(seen), 3)
+
+    def test_equations_without_unknowns(self):
+        self.assertEqual(any_solution(((), ()), (NIL, NIL)), ())
+        self.assertEqual(only_solution(((), ()), (NIL, NIL)), ())
+        self.assertIsNone(any_solution(((), ()), (NIL, ONE)))
+        self.assertIsNone(only_solution(((), ()), (NIL, ONE)))
 
     def test_free_solutions(self):
         chance = Random(32)
@@ -71,6 +97,22 @@ class Lots(TestCase):
             for size in range(-1, 8):
                 told = [lot for lot in [()] + lots_of(many) if len(lot) == size]
                 self.assertEqual(lots_of_size(many, size), told)
+
+
+    def test_the_lot_of_a_row(self):
+        self.assertEqual(lot_of((NIL, HALF, LESS, NIL)), (1, 2))
+        self.assertEqual(lot_of((NIL, NIL)), ())
+
+
+class Tables(TestCase):
+    def test_turned_over(self):
+        given = ((NIL, ONE), (TWO, HALF))
+        self.assertEqual(turned(given), ((NIL, TWO), (ONE, HALF)))
+        self.assertEqual(both_ways(given), ((NIL, (3, 1)), ((3, 1), ONE)))
+        self.assertEqual(opposite_rows(given), ((NIL, LESS), ((-2, 1), (-1, 2))))
+
+    def test_unit_rows(self):
+        self.assertEqual([unit(at, 3) for at in range(3)], [(ONE, NIL, NIL), (NIL, ONE, NIL), (NIL, NIL, ONE)])
 
 
 class Fractions(TestCase):
