@@ -17,9 +17,11 @@ THIRDS = (THIRD, THIRD, THIRD)
 
 NO_GAMES = OTHER_SORTS + [
     0, 1, (), ((),), ((), ()), (1,), (1, 2), ONE, (ONE,), (ONE, ONE), ((ONE, ONE),), ((ONE,), (ONE,)),
-    ((ONE, ONE), (ONE,)), ((ONE,), (ONE, ONE)), ((ONE,) * 3,) * 2, ((ONE,) * 2,) * 3, ((NIL,) * 6,) * 6, ((NIL,) * 7,) * 7,
+    ((ONE, ONE), (ONE,)), ((ONE,), (ONE, ONE)), ((ONE,) * 3,) * 2, ((ONE,) * 2,) * 3, ((NIL,) * 6,) * 6,
+    ((NIL,) * 7,) * 7,
     ((NIL,) * 5,) * 6, ((NIL,) * 6,) * 5, [[ONE, ONE], [ONE, ONE]], [(ONE, ONE), (ONE, ONE)], ([ONE, ONE], [ONE, ONE]),
-    ((ONE, ONE), [ONE, ONE]), {0: (ONE, ONE), 1: (ONE, ONE)}, (DOVE, DOVE), (DOVE,), (None,), ((None,),), ("a",), (("ab",),),
+    ((ONE, ONE), [ONE, ONE]), {0: (ONE, ONE), 1: (ONE, ONE)}, (DOVE, DOVE), (DOVE,), (None,), ((None,),), ("a",),
+    (("ab",),),
     ((ONE, (2, 2)), (ONE, ONE)), ((ONE, ONE), (ONE, (1, 0))), ((ONE, (True, 1)), (ONE, ONE)), (((1, -1),),), ((1,),),
     ((ONE, None), (ONE, ONE)), ((ONE, [1, 1]), (ONE, ONE)), (DOVE, EVEN), ((ONE, ONE), None),
 ]

@@ -57,7 +57,8 @@ NO_QUADRATICS = [value for value in NO_FORMS if value != (HUMP, (NIL, NIL))] + [
     (list(CROSS), (ONE, ONE)), (CROSS, (ONE,)), (CROSS, (ONE, ONE, ONE)), (CROSS, ()), (CROSS, None), (CROSS, CROSS),
     (CROSS, (ONE, (2, 2))), (CROSS, ((1, 0), ONE)), (CROSS, (ONE, (True, 1))), (CROSS, (1, 1)), (CROSS, ONE),
     (CROSS, (ONE, None)), (((ONE, ONE), (LESS, ONE)), (ONE, ONE)), (((ONE,),), ()), ((), ()), (((ONE,),), ONE),
-    (((NIL,) * 4,) * 4, (NIL,) * 4), (((NIL,) * 6,) * 6, (NIL,) * 6), {0: CROSS, 1: (ONE, ONE)}, (CROSS, {0: ONE, 1: ONE}),
+    (((NIL,) * 4,) * 4, (NIL,) * 4), (((NIL,) * 6,) * 6, (NIL,) * 6), {0: CROSS, 1: (ONE, ONE)},
+    (CROSS, {0: ONE, 1: ONE}),
     ((CROSS, (ONE, ONE)),), (CROSS, ((1, -1), ONE)), (((ONE,),), ([1, 1],)), (None, (ONE,)), (((ONE,),), True),
 ]
 

@@ -37,18 +37,21 @@ OTHER_SORTS = [
 ]
 
 NO_FRACTIONS = OTHER_SORTS + [
-    0, 1, -7, 10 ** 300, (), (1,), (1, 1, 1), (2, 2), (2, 4), (-2, 4), (0, 2), (0, 0), (1, 0), (-1, 0), (1, -1), (0, -1),
+    0, 1, -7, 10 ** 300, (), (1,), (1, 1, 1), (2, 2), (2, 4), (-2, 4), (0, 2), (0, 0), (1, 0), (-1, 0), (1, -1),
+    (0, -1),
     (-3, -2), (6, -3), (True, 1), (1, True), (False, 1), (True, True), (0, True), (None, 1), (1, None), ("1", "1"),
     ((1, 1), (1, 1)), ((1,), 1), (1, (1,)), ([1], 1), [0, 1], [1, 2], ((1, 1),),
 ]
 
 NO_FORMS = OTHER_SORTS + [
     0, 1, -2, (), ((),), ((), ()), (1,), (1, 2), ONE, (ONE,), (ONE, ONE), ((ONE, ONE),), ((ONE,), (ONE,)),
-    ((ONE, ONE), (ONE,)), ((ONE,), (ONE, ONE)), ((ONE, ONE), (ONE, ONE), (ONE, ONE)), ((ONE, ONE, ONE), (ONE, ONE, ONE)),
+    ((ONE, ONE), (ONE,)), ((ONE,), (ONE, ONE)), ((ONE, ONE), (ONE, ONE), (ONE, ONE)),
+    ((ONE, ONE, ONE), (ONE, ONE, ONE)),
     ((ONE, TWO), (ONE, ONE)), ((ONE, ONE), ((-1, 1), ONE)), ((ONE, (1, 2)), ((1, 3), ONE)),
     [[ONE, ONE], [ONE, ONE]], [(ONE, ONE), (ONE, ONE)], ([ONE, ONE], [ONE, ONE]), ((ONE, ONE), [ONE, ONE]),
     {0: (ONE, ONE), 1: (ONE, ONE)}, (HUMP, HUMP), (HUMP,), (((ONE,),),), (None,), ((None,),), (("ab",),), ("a",),
-    (HUMP, (NIL, NIL)), ((1, 1), (1, 1)), ((1,),), tuple([(NIL,) * 7] * 7), tuple([(NIL,) * 6] * 7), tuple([(NIL,) * 7] * 6),
+    (HUMP, (NIL, NIL)), ((1, 1), (1, 1)), ((1,),), tuple([(NIL,) * 7] * 7), tuple([(NIL,) * 6] * 7),
+    tuple([(NIL,) * 7] * 6),
 ]
 
 # What is no lot as a whole, whatever its elements are.

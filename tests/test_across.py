@@ -92,7 +92,8 @@ class OfOneForm(TestCase):
                 self.assertIn(word_near(quadratic, room, corner), ("strict", "least"))
                 self.assertEqual(worth_at(quadratic, corner), low)
                 self.assertIsNotNone(multipliers(quadratic, room, corner))
-                self.assertEqual(slope_at(quadratic, corner), pairs([2 * value for value in numbers(led(form, corner))]))
+                self.assertEqual(slope_at(quadratic, corner),
+                                 pairs([2 * value for value in numbers(led(form, corner))]))
             high = least_worth(opposite_of(form))
             self.assertEqual(greatest_of(quadratic, room)[0], (-high[0], high[1]))
 
@@ -113,7 +114,8 @@ class OfOneForm(TestCase):
             if len(least_corners(form)) == 1:
                 self.assertIs(is_unentered(game, least_corners(form)[0]), True)
             mix = some_mix(chance, len(form))
-            if mix != least_corners(form)[0] and is_least_place(form, mix):
+            # Right beside a least place that is no corner there are others.
+            if mix not in least_corners(form) and is_least_place(form, mix):
                 self.assertIs(is_unentered(game, mix), False)
 
     def test_unentered_mixes_are_the_strict_places_of_shares(self):

@@ -28,7 +28,8 @@ from tests.room_samples import (
     ALL, GAP, NO_QUADRATICS, NO_ROOMS, QUARTER, SQUARE, STRIP, grid_places, some_held_rooms, some_quadratic, some_rooms,
 )
 from tests.samples import (
-    CROSS, DIP, FIRM, FLAT, FaceCase, HORN, HUMP, LESS, NIL, NO_FORMS, NO_FRACTIONS, NO_NUMBERS, ONE, OTHER_SORTS, SINGLE,
+    CROSS, DIP, FIRM, FLAT, FaceCase, HORN, HUMP, LESS, NIL, NO_FORMS, NO_FRACTIONS, NO_NUMBERS, ONE, OTHER_SORTS,
+    SINGLE,
     TWO, any_form, form_of, great_number, many_forms, pairs, some_rows,
 )
 from tests.web_samples import HEAVY, NO_WEBS, some_webs
@@ -40,7 +41,8 @@ OTHERS.update({other: word for word, other in OTHERS.items()})
 # All functions, with arguments that are right.
 RIGHT = [
     (certify_word, (HUMP,)), (certify_least, (FIRM,)), (certify_plus, (CROSS,)), (certify_sunk, (DIP, FIRM, 4)),
-    (certify_cone, (CROSS, ((ONE, ONE), (ONE, NIL)))), (certify_room, (GAP,)), (certify_bounded, ((CROSS, PLAIN), STRIP)),
+    (certify_cone, (CROSS, ((ONE, ONE), (ONE, NIL)))), (certify_room, (GAP,)),
+    (certify_bounded, ((CROSS, PLAIN), STRIP)),
     (certify_least_over, ((DIP, PLAIN), SQUARE)), (certify_near, ((DIP, PLAIN), SQUARE, (ONE, ONE))),
     (certify_heaviest, (HEAVY,)), (certify_entering, (ROCK, THIRDS)), (certify_hurting, (MEET, EVEN)),
     (certify_met, (CROSS, (LESS, ONE))), (certify_answer, (CROSS, (LESS, ONE))),
@@ -79,10 +81,12 @@ class Examples(FaceCase):
         self.assertEqual(
             [certify_word(HUMP)[0], certify_word(HUMP)[1][0], certify_least(FIRM)[0], certify_plus(CROSS)[0][0],
              certify_room(GAP)[0][0], certify_near((DIP, PLAIN), SQUARE, (ONE, ONE))[0][4]],
-            [("word", (((1, 1), (-1, 1)), ((-1, 1), (1, 1))), "from"), (((1, 1), (0, 1)), ((1, 2), (1, 2)), ((0, 1), (1, 1))),
+            [("word", (((1, 1), (-1, 1)), ((-1, 1), (1, 1))), "from"),
+             (((1, 1), (0, 1)), ((1, 2), (1, 2)), ((0, 1), (1, 1))),
              ("least", (((2, 1), (1, 1)), ((1, 1), (2, 1))), (3, 2)), "not plus", "empty", "strict"])
         self.assertEqual(
-            [certify_heaviest(HEAVY)[0][2], certify_entering(ROCK, THIRDS)[0][0], certify_answer(CROSS, (LESS, ONE))[0][0]],
+            [certify_heaviest(HEAVY)[0][2], certify_entering(ROCK, THIRDS)[0][0],
+             certify_answer(CROSS, (LESS, ONE))[0][0]],
             [(4, 1), "entered", "unanswered"])
 
 

@@ -42,8 +42,8 @@ class Examples(TestCase):
 class Papers(TestCase):
     def test_all_words_are_looked_at(self):
         self.assertEqual(WORDS, sorted([
-            "word", "least", "plus", "not plus", "sunk", "cone", "holds", "empty", "bounded", "endless", "least over", "near",
-            "heaviest", "unentered", "entered", "unhurt", "hurt", "met", "barred", "answered", "unanswered"]))
+            "word", "least", "plus", "not plus", "sunk", "cone", "holds", "empty", "bounded", "endless", "least over",
+            "near", "heaviest", "unentered", "entered", "unhurt", "hurt", "met", "barred", "answered", "unanswered"]))
         self.assertEqual(sorted({claim[0] for claim in NOT_SO}), WORDS)
 
     def test_right_papers(self):
@@ -142,7 +142,8 @@ class Claims(TestCase):
                 self.assertIs(accepts((other, *claim[1:]), right[0]), False)
 
     def test_values_that_are_no_claims(self):
-        for value in OTHER_SORTS + [(), 0, 1, "word", ("word",), ("plus",), ["plus", FIRM], ("plus", FIRM)[::-1], nested(14),
+        for value in OTHER_SORTS + [(), 0, 1, "word", ("word",), ("plus",), ["plus", FIRM], ("plus", FIRM)[::-1],
+                                    nested(14),
                                     ("plus", nested(13)), (nested(13), FIRM), {"plus": FIRM}, ("word", "above", FIRM)]:
             for paper in [(), None, ENDS, value, nested(14), [], True]:
                 with self.subTest(claim=value, paper=paper):
@@ -177,7 +178,8 @@ class Claims(TestCase):
         for words, values in [
             (("word", "least", "plus", "not plus", "sunk", "cone"), NO_FORMS),
             (("holds", "empty"), NO_ROOMS), (("bounded", "endless", "least over", "near"), NO_QUADRATICS),
-            (("heaviest",), NO_WEBS), (("unentered", "entered", "unhurt", "hurt", "met", "barred", "answered", "unanswered"), NO_GAMES),
+            (("heaviest",), NO_WEBS),
+            (("unentered", "entered", "unhurt", "hurt", "met", "barred", "answered", "unanswered"), NO_GAMES),
         ]:
             for claim, right, _ in CLAIMS:
                 if claim[0] in words:

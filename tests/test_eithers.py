@@ -11,7 +11,8 @@ from tests.mix_samples import (
     DOVE, MEET, NO_GAMES, ROCK, SOLE, lot_by_hand, some_game, some_games, some_mix,
 )
 from tests.samples import (
-    CROSS, FIRM, FLAT, FaceCase, HALF, HORN, HUMP, LESS, NIL, NO_FRACTIONS, ONE, OTHER_SORTS, TWO, any_form, great_number,
+    CROSS, FIRM, FLAT, FaceCase, HALF, HORN, HUMP, LESS, NIL, NO_FRACTIONS, ONE, OTHER_SORTS, TWO, any_form,
+    great_number,
     in_cone, led_to, lots_of, many_forms, number, numbers, pairs, solutions, squares, table, told_stand, units,
 )
 from tests.samples import form_of as pairs_of
@@ -79,7 +80,8 @@ def some_tables(chance, rounds):
 class Examples(FaceCase):
     def test_the_document(self):
         self.assertEqual(
-            [corner_answers(FIRM, (LESS, LESS)), any_answer(FIRM, (ONE, ONE)), is_answer(FIRM, (LESS, LESS), (HALF, NIL)),
+            [corner_answers(FIRM, (LESS, LESS)), any_answer(FIRM, (ONE, ONE)),
+             is_answer(FIRM, (LESS, LESS), (HALF, NIL)),
              corner_answers(CROSS, (LESS, LESS)), form_of(((ONE, TWO), (NIL, ONE)))],
             [(((1, 3), (1, 3)),), ((0, 1), (0, 1)), False, (((1, 1), (1, 1)),), (((2, 1), (2, 1)), ((2, 1), (2, 1)))])
         self.assertEqual(

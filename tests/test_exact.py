@@ -2,7 +2,8 @@ from random import Random
 from unittest import TestCase
 
 from everyface.exact import (
-    any_solution, both_ways, free_solutions, is_fraction, lot_of, lots_of_size, lowest, only_solution, opposite_rows, turned,
+    any_solution, both_ways, free_solutions, is_fraction, lot_of, lots_of_size, lowest, only_solution, opposite_rows,
+    turned,
     unit,
 )
 from tests.samples import (

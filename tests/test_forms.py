@@ -188,7 +188,8 @@ class Errors(FaceCase):
 
     def test_lots_that_do_not_ascend(self):
         told = {(0, 0): 1, (1, 0): 1, (0, 2, 1): 2, (0, 1, 1, 2): 2, (5, 4): 1, (5, 5): 1, (0, 1, 2, 3, 4, 5, 5): 6,
-                (0, 1, 2, 3, 4, 5, 6): 6, (6,): 0, (5, 6): 1, (3, 1, 9): 1, (0, 9, 1): 1, (-1, 0): 0, (2, 3, 2, None): 2}
+                (0, 1, 2, 3, 4, 5, 6): 6, (6,): 0, (5, 6): 1, (3, 1, 9): 1, (0, 9, 1): 1, (-1, 0): 0,
+                (2, 3, 2, None): 2}
         for lot, at in told.items():
             with self.subTest(lot):
                 self.told(InvalidLot, "index", at, part_of, SIX, lot)

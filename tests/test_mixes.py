@@ -41,7 +41,8 @@ class Examples(FaceCase):
              is_even(DOVE, EVEN), is_even(MEET, EVEN)],
             [True, False, ((1, 2), (1, 2)), (1, 2), (0,), True, False])
         self.assertEqual(
-            [all_unentered(DOVE), all_unentered(MEET), even_corners(MEET), all_unentered(ROCK), is_unentered(ROCK, THIRDS),
+            [all_unentered(DOVE), all_unentered(MEET), even_corners(MEET), all_unentered(ROCK),
+             is_unentered(ROCK, THIRDS),
              is_unhurt(ROCK, THIRDS)],
             [(((1, 2), (1, 2)),), (((0, 1), (1, 1)), ((1, 1), (0, 1))),
              (((0, 1), (1, 1)), ((1, 1), (0, 1)), ((1, 3), (2, 3))), (), False, True])
@@ -215,7 +216,8 @@ class Entering(EnteringCase):
 
     def test_even_but_entered_and_unhurt_but_not_unentered(self):
         for game, mix, told in [
-            (ROCK, THIRDS, "from"), (DOVE, EVEN, "above"), (DOVE, (ONE, NIL), "uneven"), (MEET, (THIRD, (2, 3)), "below"),
+            (ROCK, THIRDS, "from"), (DOVE, EVEN, "above"), (DOVE, (ONE, NIL), "uneven"),
+            (MEET, (THIRD, (2, 3)), "below"),
             (MEET, (ONE, NIL), "above"), (MEET, EVEN, "uneven"), (ALL_SAME, THIRDS, "from"),
             (ALL_SAME, (ONE, NIL, NIL), "from"), (((NIL, NIL), (NIL, ONE)), (ONE, NIL), "below"),
             (((NIL, NIL), (NIL, NIL)), (ONE, NIL), "from"), (((NIL, NIL), (NIL, LESS)), (ONE, NIL), "above"),
@@ -238,7 +240,8 @@ class Entering(EnteringCase):
         # Along the changes the form is - 2 x y: above 0 where both are from 0 on, below 0 where they differ.
         game = form_of([[0, 0, 0], [0, 0, -1], [0, -1, 0]])
         self.assertEqual(self.is_right(game, (ONE, NIL, NIL), shares_by(3, 5)), "from")
-        self.assertEqual(self.is_right(form_of([[0, 0, 0], [0, -1, -3], [0, -3, -1]]), (ONE, NIL, NIL), shares_by(3, 5)),
+        self.assertEqual(self.is_right(form_of([[0, 0, 0], [0, -1, -3], [0, -3, -1]]), (ONE, NIL, NIL),
+                                       shares_by(3, 5)),
                          "above")
         self.assertEqual(self.is_right(form_of([[0, 0, 0], [0, -1, 3], [0, 3, -1]]), (ONE, NIL, NIL), shares_by(3, 5)),
                          "below")
@@ -291,7 +294,8 @@ class Unentered(EnteringCase):
                 game = some_game(chance, many, 2)
                 for mix in all_unentered(game):
                     for other in small_steps(mix):
-                        nearer = pairs([(10 ** 6 * a + b) / (10 ** 6 + 1) for a, b in zip(numbers(mix), numbers(other))])
+                        both = zip(numbers(mix), numbers(other))
+                        nearer = pairs([(10 ** 6 * a + b) / (10 ** 6 + 1) for a, b in both])
                         if nearer != mix:
                             self.assertLess(gets(game, nearer, nearer), gets(game, mix, mix))
 
@@ -387,7 +391,8 @@ class NextMixes(FaceCase):
         self.assertEqual(len(seen), 3)
 
     def test_the_same_mix_again(self):
-        for game, mix in [(((ONE, TWO), (TWO, ONE)), EVEN), (((TWO, ONE), (ONE, TWO)), (ONE, NIL)), ((((7, 2),),), (ONE,)),
+        for game, mix in [(((ONE, TWO), (TWO, ONE)), EVEN), (((TWO, ONE), (ONE, TWO)), (ONE, NIL)),
+                          ((((7, 2),),), (ONE,)),
                           (ALL_SAME, (HALF, THIRD, (1, 6)))]:
             self.assertEqual(next_mix(game, mix), mix)
 

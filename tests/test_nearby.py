@@ -276,7 +276,8 @@ class StrictPlaces(FaceCase):
     def test_all_corners_in_the_order_of_tuples(self):
         away = form_of([[-value for value in row] for row in units(3)])
         told = strict_places((away, (NIL,) * 3), BOX)
-        self.assertEqual(told, tuple(sorted([(x, y, z) for x in (LESS, ONE) for y in (LESS, ONE) for z in (LESS, ONE)])))
+        corners = [(x, y, z) for x in (LESS, ONE) for y in (LESS, ONE) for z in (LESS, ONE)]
+        self.assertEqual(told, tuple(sorted(corners)))
         # As tuples (1, 2) comes before (1, 3), as numbers a third comes before a half.
         room = (1, ((ONE,), (LESS,)), (HALF, (-1, 3)))
         self.assertEqual(strict_places((((LESS,),), ((5, 6),)), room), (((1, 2),), ((1, 3),)))
@@ -303,7 +304,8 @@ class StrictPlaces(FaceCase):
         for many in (1, 2, 3):
             for _ in range(8):
                 ties = tuple([tie for tie in combinations(range(many), 2) if chance.randrange(2)])
-                web = (many, ties, pairs([Fraction(chance.randrange(1, 5), chance.randrange(1, 4)) for _ in range(many)]))
+                weights = [Fraction(chance.randrange(1, 5), chance.randrange(1, 4)) for _ in range(many)]
+                web = (many, ties, pairs(weights))
                 told = strict_places((web_form(web), (NIL,) * many), shares_room(many))
                 self.assertEqual(told, tuple(sorted([place_of(web, lot) for lot in full_lots(web)])))
 

@@ -161,7 +161,8 @@ class Bounded(FaceCase):
 
     def test_slopes_where_the_form_is_nought(self):
         for first, second, bounded in [
-            (1, -1, True), (-1, 1, True), (1, -1 - TINY, False), (-1, 1 - TINY, False), (TINY, TINY, True), (0, 0, True),
+            (1, -1, True), (-1, 1, True), (1, -1 - TINY, False), (-1, 1 - TINY, False), (TINY, TINY, True),
+            (0, 0, True),
             (-TINY, 0, False), (0, -TINY, False),
         ]:
             quadratic = (HUMP, pairs([first, second]))

@@ -31,7 +31,8 @@ def turned_down(value):
 class Examples(FaceCase):
     def test_the_document(self):
         self.assertEqual(
-            [is_web(PATH), is_web((2, ((1, 0),), (ONE, ONE))), web_form(PATH), web_form(HEAVY)[0], is_tied(PATH, (0, 2)),
+            [is_web(PATH), is_web((2, ((1, 0),), (ONE, ONE))), web_form(PATH), web_form(HEAVY)[0],
+             is_tied(PATH, (0, 2)),
              lot_weight(HEAVY, (1, 2)), place_of(HEAVY, (1, 2))],
             [True, False, (((1, 1), (0, 1), (2, 1)), ((0, 1), (1, 1), (0, 1)), ((2, 1), (0, 1), (1, 1))),
              ((1, 1), (0, 1), (4, 3)), False, (4, 1), ((0, 1), (1, 4), (3, 4))])
@@ -226,7 +227,8 @@ class UntiedForms(FaceCase):
         for web in [PATH, HEAVY, ALONE, RING] + some_webs(Random(253), 2):
             many = untied_number(web)
             with self.subTest(web):
-                for by, word in [(0, "from"), (tiny, "above"), (-tiny, "below"), (1, "above"), (Fraction(-1, 2), "below"),
+                for by, word in [(0, "from"), (tiny, "above"), (-tiny, "below"), (1, "above"),
+                                 (Fraction(-1, 2), "below"),
                                  (Fraction(1, 3), "above"), (-many, "below"), (-many - 3, "below")]:
                     self.assertEqual(word_of(untied_form(web, pair(many + by))), word)
                 # The least worth is the number over that of the places, less 1.
@@ -267,7 +269,8 @@ class Errors(FaceCase):
                 with self.subTest(value):
                     self.told(InvalidLot, "index", 0, function, PATH, (value,))
                     self.told(InvalidLot, "index", 1, function, PATH, (0, value, None))
-            for lot, at in [((0, 0), 1), ((1, 0), 1), ((0, 2, 1), 2), ((0, 1, 2, 3), 3), ((0, 1, 2, 2), 3), ((2, 1, 0), 1)]:
+            for lot, at in [((0, 0), 1), ((1, 0), 1), ((0, 2, 1), 2), ((0, 1, 2, 3), 3), ((0, 1, 2, 2), 3),
+                            ((2, 1, 0), 1)]:
                 self.told(InvalidLot, "index", at, function, PATH, lot)
             self.told(InvalidLot, "index", 0, function, ALONE, (1,))
             self.told(InvalidLot, "index", 0, function, RING, (6,))
@@ -290,7 +293,8 @@ class Errors(FaceCase):
                 self.told(InvalidShares, "index", 2, tied_within, PATH, (TWO, TWO, value))
 
     def test_another_sum_than_one(self):
-        for shares in [(NIL, NIL, NIL), (ONE, ONE, NIL), (HALF, NIL, NIL), (HALF, HALF, (1, 10 ** 399)), (TWO, NIL, NIL),
+        for shares in [(NIL, NIL, NIL), (ONE, ONE, NIL), (HALF, NIL, NIL), (HALF, HALF, (1, 10 ** 399)),
+                       (TWO, NIL, NIL),
                        ((1, 3), (1, 3), (10 ** 60, 3 * 10 ** 60 + 1))]:
             self.told(InvalidShares, "index", None, tied_within, PATH, shares)
 

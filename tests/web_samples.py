@@ -26,7 +26,8 @@ NO_WEIGHTS = [(value, ONE, ONE) for value in NO_FRACTIONS + [NIL, LESS, (-1, 10 
 NO_COUNTS = OTHER_SORTS + [0, -1, 7, 10 ** 30, (3, 1), "3", [3], (1,), 2, 4]
 
 NO_WEBS = OTHER_SORTS + [
-    0, 3, (), (3,), (3, ()), PATH + ((),), list(PATH), (PATH,), {0: 3, 1: (), 2: ()}, ONE, (ONE, ONE, ONE), ((), (), ()),
+    0, 3, (), (3,), (3, ()), PATH + ((),), list(PATH), (PATH,), {0: 3, 1: (), 2: ()}, ONE, (ONE, ONE, ONE),
+    ((), (), ()),
     (2, ((1, 0),), (ONE, ONE)), (0, (), ()), (7, (), (ONE,) * 7), (1, ((0, 0),), (ONE,)), (1, ((0, 1),), (ONE,)),
     (PATH[2], PATH[1], 3), (6, ((0, 6),), (ONE,) * 6),
 ] + [(3, ties, PATH[2]) for ties in NO_TIES] + [(3, PATH[1], weights) for weights in NO_WEIGHTS] + [
